@@ -1,0 +1,1 @@
+"""Markring: reflecting marks on a ring."""
