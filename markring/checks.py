@@ -51,6 +51,13 @@ def check_pins(pins, length):
         lowest = pin + 1
 
 
+def check_some_pins(pins, length):
+    """Raise InvalidPins if these are not one or more pinned seats."""
+    check_pins(pins, length)
+    if pins == ():
+        raise InvalidPins("no seat is pinned")
+
+
 def check_moves(seats, length, pins):
     """Raise InvalidMove if this is not a list of seats that may be reflected."""
     if not isinstance(seats, list):

@@ -5,6 +5,7 @@ computed in another way than in the package: a reflection of a seat exchanges
 the steps before and after it.
 """
 
+import collections
 import itertools
 import random
 import unittest
@@ -14,6 +15,9 @@ LARGEST_STEP = 2000000
 
 # What no seat, mark or step can be.
 NO_INTEGERS = [True, False, None, "", "0", "1", "seat", (), (0,), (0, 1, 3), [], [0], [1, 2]]
+
+# What is not a seat of any ring.
+NO_SEATS = NO_INTEGERS + [-1, -2, 8, 9, 10 ** 30, -10 ** 30]
 
 # What is not a tuple at all.
 NO_TUPLES = [0, 1, -5, True, False, None, "", "013", "pins", [], [0], [0, 1, 3], [0, 1, 2, 3]]
@@ -55,6 +59,18 @@ def random_pins(source, length):
     return tuple(seat for seat in range(length) if source.random() < 0.4)
 
 
+def random_some_pins(source, length, most=None):
+    """Return at least one pinned seat."""
+    number = source.randint(1, length if most is None else most)
+    return tuple(sorted(source.sample(range(length), number)))
+
+
+def random_seats(source, length, number, pins=()):
+    """Return up to a number of seats that are not pinned."""
+    free = [seat for seat in range(length) if seat not in pins]
+    return [source.choice(free) for _ in range(source.randint(0, number) if free else 0)]
+
+
 def whole(value):
     return type(value) is int
 
@@ -84,17 +100,95 @@ def marks_from(first, steps):
 
 def reflected(marks, seats):
     """Reflect seats by exchanging the two steps beside each of them."""
+    first, steps = marks[0], list(steps_of(marks))
     for seat in seats:
-        length = len(marks)
-        steps = list(steps_of(marks))
-        steps[seat - 1], steps[seat] = steps[seat], steps[seat - 1]
         if seat == 0:
-            # All other marks stay, so seat 0 is reached from the last seat.
-            first = marks[length - 1] + steps[length - 1]
-        else:
-            first = marks[0]
-        marks = marks_from(first, steps)
-    return marks
+            # Seat 0 is reached from the last seat, now by the step after seat 0.
+            first += steps[0] - steps[-1]
+        steps[seat - 1], steps[seat] = steps[seat], steps[seat - 1]
+    return marks_from(first, steps)
+
+
+def neighbors_of(marks, pins=()):
+    """Return the rings after each reflection of a seat that is not pinned."""
+    length = len(marks)
+    found = []
+    for seat in range(length):
+        if seat not in pins:
+            mark = marks[(seat + length - 1) % length] + marks[(seat + 1) % length] - marks[seat]
+            found.append(marks[:seat] + (mark,) + marks[seat + 1:])
+    return found
+
+
+def distances_from(marks, farthest=None, pins=()):
+    """Return the number of reflections to each ring that is not farther away."""
+    distances = {marks: 0}
+    waiting = collections.deque([marks])
+    while waiting:
+        ring = waiting.popleft()
+        if distances[ring] == farthest:
+            break
+        for neighbor in neighbors_of(ring, pins):
+            if neighbor not in distances:
+                distances[neighbor] = distances[ring] + 1
+                waiting.append(neighbor)
+    return distances
+
+
+def difference_of(first, second):
+    """Return the first invariant of point 5 in which two rings differ."""
+    if len(first) != len(second):
+        return "seats", len(first), len(second)
+    counts = collections.Counter(steps_of(first))
+    others = collections.Counter(steps_of(second))
+    unequal = [step for step in counts.keys() | others.keys() if counts[step] != others[step]]
+    if unequal:
+        step = min(unequal)
+        return "step", step, counts[step], others[step]
+    modulus = modulus_of(first)
+    marks = first[0], second[0]
+    if modulus > 0:
+        marks = tuple(mark - modulus * (mark // modulus) for mark in marks)
+    return None if marks[0] == marks[1] else ("mark", *marks)
+
+
+def arcs_of(marks, pins):
+    """Return the arcs, each by walking from a pinned seat to the next one."""
+    arcs = []
+    for pin in pins:
+        arc, seat = [], pin
+        while not arc or seat not in pins:
+            following = 0 if seat == len(marks) - 1 else seat + 1
+            arc.append(marks[following] - marks[seat])
+            seat = following
+        arcs.append(arc)
+    return arcs
+
+
+def pinned_difference_of(first, second, pins):
+    """Return the first invariant of point 8 in which two rings differ."""
+    if len(first) != len(second):
+        return "seats", len(first), len(second)
+    for pin in pins:
+        if first[pin] != second[pin]:
+            return "pin", pin, first[pin], second[pin]
+    for pin, arc, other in zip(pins, arcs_of(first, pins), arcs_of(second, pins)):
+        if collections.Counter(arc) != collections.Counter(other):
+            return "arc", pin, sorted(arc), sorted(other)
+    return None
+
+
+def ring_with_arcs(marks, pins, arcs):
+    """Return the ring with the pinned marks of a ring and these arcs."""
+    steps = [step for arc in arcs for step in arc]
+    turned = marks_from(marks[pins[0]], steps)
+    return turned[len(marks) - pins[0]:] + turned[:len(marks) - pins[0]]
+
+
+def pinned_rings_of(marks, pins):
+    """Return all reachable rings in their order, from all orders of all arcs."""
+    orders = [sorted(set(itertools.permutations(arc))) for arc in arcs_of(marks, pins)]
+    return [ring_with_arcs(marks, pins, arcs) for arcs in itertools.product(*orders)]
 
 
 def ring_error(marks):
@@ -131,6 +225,20 @@ def pins_valid(pins, length):
         return False
     chosen = [seat for seat in range(length) if seat in pins]
     return list(pins) == chosen
+
+
+def some_pins_valid(pins, length):
+    """Tell whether these are pinned seats for the functions that need some."""
+    return pins_valid(pins, length) and len(pins) > 0
+
+
+def invalid_pins(length):
+    """Return what is not a tuple of one or more pinned seats."""
+    cases = NO_TUPLES + [(), (0, 0), (1, 0), (2, 2), (0, 2, 1), (0, 1, 1), (0, 1, 2, 2)]
+    cases += [(length,), (0, length), (-1,), (-1, 0), (length - 1, length), ((0,),), ([0],)]
+    for bad in NO_SEATS:
+        cases += [(bad,), (0, bad), (bad, length - 1), (0, bad, length - 1)]
+    return [pins for pins in cases if not some_pins_valid(pins, length)]
 
 
 def move_error(seats, length, pins):

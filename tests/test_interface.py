@@ -7,7 +7,7 @@ import unittest
 POSITIONAL = inspect.Parameter.POSITIONAL_OR_KEYWORD
 KEYWORD_ONLY = inspect.Parameter.KEYWORD_ONLY
 
-# Each function with its positional parameters and whether it takes pins.
+# Each function with its positional parameters and whether it takes pins by keyword.
 FUNCTIONS = {
     "markring.rings": {
         "find_steps": (["marks"], False),
@@ -17,6 +17,23 @@ FUNCTIONS = {
     "markring.moves": {
         "apply_moves": (["marks", "seats"], True),
         "active_seats": (["marks"], True),
+    },
+    "markring.reachability": {
+        "find_difference": (["first", "second"], False),
+        "find_moves": (["first", "second"], False),
+    },
+    "markring.distance": {
+        "shortest_moves": (["first", "second", "limit"], False),
+        "min_moves": (["first", "second", "limit"], False),
+    },
+    "markring.pinned": {
+        "find_arcs": (["marks", "pins"], False),
+        "find_pinned_difference": (["first", "second", "pins"], False),
+        "pinned_moves": (["first", "second", "pins"], False),
+        "count_pinned": (["marks", "pins"], False),
+        "rank_pinned": (["marks", "pins"], False),
+        "pinned_at": (["marks", "pins", "rank"], False),
+        "possible_marks": (["marks", "pins", "seat"], False),
     },
 }
 

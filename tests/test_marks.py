@@ -4,8 +4,19 @@ import unittest
 
 from support import LARGEST_MARK, NO_TUPLES, MarkringTest, invalid_rings, random_rings, ring_error
 
+from markring.distance import min_moves, shortest_moves
 from markring.errors import InvalidMarks
 from markring.moves import active_seats, apply_moves
+from markring.pinned import (
+    count_pinned,
+    find_arcs,
+    find_pinned_difference,
+    pinned_at,
+    pinned_moves,
+    possible_marks,
+    rank_pinned,
+)
+from markring.reachability import find_difference, find_moves
 from markring.rings import find_modulus, find_steps
 
 # Other arguments of each function: valid ones, then ones that are wrong, too.
@@ -22,6 +33,30 @@ CALLS = [
     (apply_moves, ([True],), {"pins": (5, 5)}),
     (active_seats, (), {"pins": [0]}),
     (active_seats, (), {"pins": (-1, "x")}),
+    (find_arcs, ((0,),), {}),
+    (find_arcs, ((),), {}),
+    (count_pinned, ((0, 2),), {}),
+    (count_pinned, ((5, 5),), {}),
+    (rank_pinned, ((1,),), {}),
+    (rank_pinned, (None,), {}),
+    (pinned_at, ((0,), 0), {}),
+    (pinned_at, ((), True), {}),
+    (possible_marks, ((0,), 0), {}),
+    (possible_marks, ([0], -1), {}),
+]
+
+# Functions of two rings with what follows the rings: valid ones, then wrong ones.
+PAIR_CALLS = [
+    (find_difference, ()),
+    (find_moves, ()),
+    (shortest_moves, (8,)),
+    (shortest_moves, (9,)),
+    (min_moves, (0,)),
+    (min_moves, (None,)),
+    (find_pinned_difference, ((0,),)),
+    (find_pinned_difference, ((),)),
+    (pinned_moves, ((1, 2),)),
+    (pinned_moves, ([0],)),
 ]
 
 
@@ -30,6 +65,12 @@ class MarksTest(MarkringTest):
         for function, values, keywords in CALLS:
             expected = {"position": position}
             self.assert_raises(InvalidMarks, expected, function, marks, *values, **keywords)
+        for function, values in PAIR_CALLS:
+            # The second ring is (0, 0, 0), one with other seats or steps, or no ring either.
+            for other in ((0, 0, 0), (0, 1, 3, 3), (0, 0, 0, None), None):
+                self.assert_raises(InvalidMarks, expected, function, marks, other, *values)
+            for other in ((0, 0, 0), (0, 1, 3, 3)):
+                self.assert_raises(InvalidMarks, expected, function, other, marks, *values)
 
     def test_the_reference_agrees_with_the_listed_cases(self):
         for marks, position in invalid_rings():
@@ -75,6 +116,16 @@ class MarksTest(MarkringTest):
             find_modulus(marks)
             self.assert_same(apply_moves(marks, []), marks)
             active_seats(marks)
+            find_arcs(marks, (0,))
+            self.assertIsNone(find_difference(marks, marks))
+            self.assertIsNone(find_pinned_difference(marks, marks, (0,)))
+            self.assertEqual(find_moves(marks, marks), [])
+            self.assertEqual(shortest_moves(marks, marks, 0), [])
+            self.assertEqual(min_moves(marks, marks, 0), 0)
+            self.assertEqual(pinned_moves(marks, marks, (0,)), [])
+            self.assert_same(pinned_at(marks, (0,), rank_pinned(marks, (0,))), marks)
+            self.assertGreaterEqual(count_pinned(marks, (0,)), 1)
+            self.assertIn(marks[1], possible_marks(marks, (0,), 1))
 
 
 if __name__ == "__main__":

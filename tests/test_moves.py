@@ -6,30 +6,27 @@ import random
 import unittest
 
 from support import (
-    NO_INTEGERS,
     NO_LISTS,
+    NO_SEATS,
     NO_TUPLES,
     MarkringTest,
     move_error,
     pins_valid,
     random_pins,
     random_ring,
+    random_seats,
     reflected,
 )
 
 from markring.errors import InvalidMove, InvalidPins
 from markring.moves import active_seats, apply_moves
 
-NO_SEATS = NO_INTEGERS + [-1, -2, 8, 9, 10 ** 30, -10 ** 30]
-
 
 def random_case(source):
     """Return a ring, pinned seats and up to thirty seats to reflect."""
     marks = random_ring(source)
     pins = random_pins(source, len(marks))
-    free = [seat for seat in range(len(marks)) if seat not in pins]
-    number = source.randint(0, 30) if free else 0
-    return marks, pins, [source.choice(free) for _ in range(number)]
+    return marks, pins, random_seats(source, len(marks), 30, pins)
 
 
 def changing_seats(marks, pins):
