@@ -1,10 +1,11 @@
 """Checks of arguments that several modules share."""
 
-from markring.errors import InvalidMarks, InvalidMove, InvalidPins
+from markring.errors import InvalidIndex, InvalidMarks, InvalidMove, InvalidPins, InvalidTimes
 
 FEWEST_SEATS = 3
 MOST_SEATS = 8
 LARGEST_MARK = 1000000
+MOST_TIMES = 10 ** 18
 
 
 def is_whole(value):
@@ -16,6 +17,12 @@ def is_whole(value):
 def is_seat(value, length):
     """Tell whether a value is a seat of a ring with this number of seats."""
     return is_whole(value) and 0 <= value < length
+
+
+def check_seat(seat, length):
+    """Raise InvalidIndex if a ring of this length has no such seat."""
+    if not is_seat(seat, length):
+        raise InvalidIndex("the ring has no such seat")
 
 
 def first_invalid(values, largest):
@@ -67,3 +74,9 @@ def check_moves(seats, length, pins):
             raise InvalidMove(position, "seat")
         if seat in pins:
             raise InvalidMove(position, "pinned")
+
+
+def check_times(times):
+    """Raise InvalidTimes if a block cannot be executed so often."""
+    if not is_whole(times) or not 0 <= times <= MOST_TIMES:
+        raise InvalidTimes("the number of times is not an integer from 0 to 10 ** 18")

@@ -68,6 +68,17 @@ def order_at(steps, rank):
     return []
 
 
+def list_orders(steps):
+    """Return the list of all different orders of these steps."""
+    if not steps:
+        return [[]]
+    orders = []
+    for step in sorted(set(steps)):
+        for others in list_orders(without_step(steps, step)):
+            orders.append([step] + others)
+    return orders
+
+
 def without_step(steps, step):
     """Return the list of steps with one step of this value less."""
     others = list(steps)

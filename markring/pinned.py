@@ -2,9 +2,9 @@
 
 from itertools import combinations
 
-from markring.checks import check_ring, check_some_pins, is_seat, is_whole
+from markring.checks import check_ring, check_seat, check_some_pins, is_whole
 from markring.errors import InvalidIndex, NotReachable
-from markring.orders import arranging_places, count_orders, order_at, rank_order
+from markring.orders import arranging_places, count_orders, list_orders, order_at, rank_order
 from markring.rings import steps_between
 
 
@@ -19,15 +19,7 @@ def find_pinned_difference(first, second, pins):
     check_ring(first)
     check_ring(second)
     check_some_pins(pins, len(first))
-    if len(first) != len(second):
-        return ("seats", len(first), len(second))
-    for pin in pins:
-        if first[pin] != second[pin]:
-            return ("pin", pin, first[pin], second[pin])
-    for pin, arc, other in zip(pins, arcs_between(first, pins), arcs_between(second, pins)):
-        if sorted(arc) != sorted(other):
-            return ("arc", pin, sorted(arc), sorted(other))
-    return None
+    return pinned_difference_between(first, second, pins)
 
 
 def pinned_moves(first, second, pins):
@@ -72,8 +64,7 @@ def pinned_at(marks, pins, rank):
 def possible_marks(marks, pins, seat):
     """Return the ascending list of the marks of a seat in reachable rings."""
     check_pinned_ring(marks, pins)
-    if not is_seat(seat, len(marks)):
-        raise InvalidIndex("the ring has no such seat")
+    check_seat(seat, len(marks))
     # Seats before the first pinned one are in the last arc, as the index -1 says.
     place = len([pin for pin in pins if pin <= seat]) - 1
     distance = (seat - pins[place]) % len(marks)
@@ -85,6 +76,19 @@ def check_pinned_ring(marks, pins):
     """Raise InvalidMarks or InvalidPins if these are not a ring and pinned seats."""
     check_ring(marks)
     check_some_pins(pins, len(marks))
+
+
+def pinned_difference_between(first, second, pins):
+    """Return the difference of rings whose marks may lie beyond the limits."""
+    if len(first) != len(second):
+        return ("seats", len(first), len(second))
+    for pin in pins:
+        if first[pin] != second[pin]:
+            return ("pin", pin, first[pin], second[pin])
+    for pin, arc, other in zip(pins, arcs_between(first, pins), arcs_between(second, pins)):
+        if sorted(arc) != sorted(other):
+            return ("arc", pin, sorted(arc), sorted(other))
+    return None
 
 
 def arcs_between(marks, pins):
@@ -101,6 +105,15 @@ def count_rings(marks, pins):
     for arc in arcs_between(marks, pins):
         number *= count_orders(arc)
     return number
+
+
+def list_rings(marks, pins):
+    """Return the list of all rings that are reachable from a checked one."""
+    choices = [[]]
+    for arc in arcs_between(marks, pins):
+        orders = list_orders(arc)
+        choices = [arcs + [order] for arcs in choices for order in orders]
+    return [ring_along(marks, pins, arcs) for arcs in choices]
 
 
 def ring_along(marks, pins, arcs):

@@ -3,7 +3,7 @@
 from markring.checks import check_ring
 from markring.errors import NotReachable
 from markring.orders import arranging_places
-from markring.rings import find_modulus, steps_between
+from markring.rings import step_modulus, steps_between
 from markring.windings import find_windings, winding_places
 
 
@@ -11,12 +11,7 @@ def find_difference(first, second):
     """Return the first invariant in which the rings differ, or None."""
     check_ring(first)
     check_ring(second)
-    if len(first) != len(second):
-        return ("seats", len(first), len(second))
-    difference = find_step_difference(steps_between(first), steps_between(second))
-    if difference is not None:
-        return difference
-    return find_mark_difference(first, second)
+    return difference_between(first, second)
 
 
 def find_moves(first, second):
@@ -37,6 +32,16 @@ def check_reachable(first, second):
         raise NotReachable("no reflections lead to the second ring")
 
 
+def difference_between(first, second):
+    """Return the difference of rings whose marks may lie beyond the limits."""
+    if len(first) != len(second):
+        return ("seats", len(first), len(second))
+    difference = find_step_difference(steps_between(first), steps_between(second))
+    if difference is not None:
+        return difference
+    return find_mark_difference(first, second)
+
+
 def find_step_difference(first, second):
     """Return the difference of the smallest step that is not equally frequent."""
     for step in sorted(set(first + second)):
@@ -48,7 +53,7 @@ def find_step_difference(first, second):
 def find_mark_difference(first, second):
     """Return the difference of the first marks of two rings with the same steps."""
     start, end = first[0], second[0]
-    modulus = find_modulus(first)
+    modulus = step_modulus(steps_between(first))
     if modulus != 0:
         start, end = start % modulus, end % modulus
     if start != end:

@@ -28,18 +28,22 @@ def build_ring(first, steps):
 def find_modulus(marks):
     """Return the greatest common divisor of all differences between steps."""
     check_ring(marks)
-    steps = steps_between(marks)
-    modulus = 0
-    # Each difference between two steps is one of two differences to the first.
-    for step in steps:
-        modulus = gcd(modulus, step - steps[0])
-    return modulus
+    return step_modulus(steps_between(marks))
 
 
 def steps_between(marks):
     """Return the steps of marks that may lie beyond the limits of a ring."""
     length = len(marks)
     return tuple([marks[(seat + 1) % length] - marks[seat] for seat in range(length)])
+
+
+def step_modulus(steps):
+    """Return the greatest common divisor of all differences between the steps."""
+    modulus = 0
+    # Each difference between two steps is one of two differences to the first.
+    for step in steps:
+        modulus = gcd(modulus, step - steps[0])
+    return modulus
 
 
 def marks_along(first, steps):

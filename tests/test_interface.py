@@ -35,6 +35,52 @@ FUNCTIONS = {
         "pinned_at": (["marks", "pins", "rank"], False),
         "possible_marks": (["marks", "pins", "seat"], False),
     },
+    "markring.blocks": {
+        "repeat_block": (["marks", "block", "times"], False),
+        "block_drift": (["marks", "block"], False),
+        "block_period": (["marks", "block"], False),
+        "first_time": (["marks", "block", "seat", "mark"], False),
+        "is_identity": (["length", "block"], False),
+    },
+    "markring.workbench": {
+        "replay": (["marks", "operations"], False),
+    },
+    "markring.textio": {
+        "format_session": (["marks", "operations"], False),
+        "parse_session": (["text"], False),
+    },
+}
+
+# Each class with its methods and their parameters without the object itself.
+CLASSES = {
+    ("markring.inference", "HiddenRing"): {
+        "__init__": ["marks", "pins"],
+        "observe_mark": ["seat", "mark"],
+        "observe_sign": ["seat", "sign"],
+        "candidates": [],
+        "marks_at": ["seat"],
+        "known_marks": [],
+        "differing_pair": ["seat"],
+        "best_seat": [],
+        "history": [],
+    },
+    ("markring.workbench", "Workbench"): {
+        "__init__": ["marks"],
+        "reflect": ["seat"],
+        "pin": ["pins"],
+        "shift": ["amount"],
+        "turn": ["count"],
+        "repeat": ["block", "times"],
+        "undo": [],
+        "redo": [],
+        "ring": [],
+        "pinned": [],
+        "operations": [],
+        "reaches": ["marks"],
+        "save": ["name"],
+        "restore": ["name"],
+        "batch": ["operations"],
+    },
 }
 
 
@@ -61,6 +107,20 @@ class InterfaceTest(unittest.TestCase):
             for each in others:
                 self.assertEqual(each.kind, KEYWORD_ONLY, function)
                 self.assertEqual(each.default, (), function)
+
+    def test_classes(self):
+        for (file, name), methods in CLASSES.items():
+            found = getattr(importlib.import_module(file), name)
+            self.assertTrue(inspect.isclass(found), name)
+            self.assertEqual(found.__module__, file)
+            for method, expected in methods.items():
+                # In the class itself, not in a base class.
+                function = vars(found)[method]
+                self.assertTrue(inspect.isfunction(function), method)
+                parameters = list(inspect.signature(function).parameters.values())[1:]
+                self.assertEqual([each.name for each in parameters], expected, method)
+                for each in parameters:
+                    self.assertEqual((each.kind, each.default), (POSITIONAL, inspect.Parameter.empty))
 
 
 if __name__ == "__main__":

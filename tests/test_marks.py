@@ -4,8 +4,10 @@ import unittest
 
 from support import LARGEST_MARK, NO_TUPLES, MarkringTest, invalid_rings, random_rings, ring_error
 
+from markring.blocks import block_drift, block_period, first_time, repeat_block
 from markring.distance import min_moves, shortest_moves
 from markring.errors import InvalidMarks
+from markring.inference import HiddenRing
 from markring.moves import active_seats, apply_moves
 from markring.pinned import (
     count_pinned,
@@ -18,6 +20,8 @@ from markring.pinned import (
 )
 from markring.reachability import find_difference, find_moves
 from markring.rings import find_modulus, find_steps
+from markring.textio import format_session
+from markring.workbench import Workbench, replay
 
 # Other arguments of each function: valid ones, then ones that are wrong, too.
 CALLS = [
@@ -43,7 +47,31 @@ CALLS = [
     (pinned_at, ((), True), {}),
     (possible_marks, ((0,), 0), {}),
     (possible_marks, ([0], -1), {}),
+    (repeat_block, ([0, 1], 5), {}),
+    (repeat_block, ([99], -1), {}),
+    (repeat_block, (None, None), {}),
+    (block_drift, ([],), {}),
+    (block_drift, ((0,),), {}),
+    (block_period, ([0],), {}),
+    (block_period, ([True],), {}),
+    (first_time, ([0], 0, 5), {}),
+    (first_time, ([-1], -1, 5), {}),
+    (first_time, ([], None, 5), {}),
+    (HiddenRing, ((0,),), {}),
+    (HiddenRing, ((),), {}),
+    (HiddenRing, ([0],), {}),
+    (Workbench, (), {}),
+    (replay, ([("shift", 1)],), {}),
+    (replay, ([("shift",), None],), {}),
+    (replay, (None,), {}),
+    (format_session, ([("undo",)],), {}),
+    (format_session, ([("reflect", 99)],), {}),
+    (format_session, ((),), {}),
 ]
+
+# Workbenches without and with pinned seats, which are asked for other rings.
+FREE = Workbench((0, 0, 0))
+PINNED = replay((0, 1, 3), [("pin", (0, 2))])
 
 # Functions of two rings with what follows the rings: valid ones, then wrong ones.
 PAIR_CALLS = [
@@ -71,6 +99,8 @@ class MarksTest(MarkringTest):
                 self.assert_raises(InvalidMarks, expected, function, marks, other, *values)
             for other in ((0, 0, 0), (0, 1, 3, 3)):
                 self.assert_raises(InvalidMarks, expected, function, other, marks, *values)
+        for workbench in (FREE, PINNED):
+            self.assert_raises(InvalidMarks, {"position": position}, workbench.reaches, marks)
 
     def test_the_reference_agrees_with_the_listed_cases(self):
         for marks, position in invalid_rings():
@@ -126,6 +156,15 @@ class MarksTest(MarkringTest):
             self.assert_same(pinned_at(marks, (0,), rank_pinned(marks, (0,))), marks)
             self.assertGreaterEqual(count_pinned(marks, (0,)), 1)
             self.assertIn(marks[1], possible_marks(marks, (0,), 1))
+            self.assert_same(repeat_block(marks, [], 1), marks)
+            self.assert_same(block_drift(marks, []), (1, 0))
+            self.assert_same(block_period(marks, []), 1)
+            self.assert_same(first_time(marks, [], 1, marks[1]), 0)
+            self.assertIn(marks, HiddenRing(marks, (0, 3) if len(marks) > 3 else (0,)).candidates())
+            self.assert_same(Workbench(marks).ring(), marks)
+            self.assert_same(Workbench(marks).reaches(marks), True)
+            self.assert_same(replay(marks, []).ring(), marks)
+            self.assertTrue(format_session(marks, []).startswith("marks "))
 
 
 if __name__ == "__main__":
